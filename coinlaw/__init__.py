@@ -1,0 +1,1 @@
+"""Coinlaw: money by one rule of sums."""
