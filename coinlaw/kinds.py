@@ -14,3 +14,23 @@ def is_within(thing, least, most):
 def is_tuple_of(thing, least, most):
     """Whether thing is a tuple of least to most parts."""
     return isinstance(thing, tuple) and least <= len(thing) <= most
+
+
+def is_rising(things):
+    """Whether each is greater than the one ahead; all of them can be compared."""
+    return all([one < other for one, other in zip(things, things[1:])])
+
+
+def is_word(thing):
+    return is_letters(thing, 1, 8)
+
+
+def is_code(thing):
+    return is_letters(thing, 3, 3)
+
+
+def is_letters(thing, least, most):
+    """Whether thing is a text of least to most small letters."""
+    if not isinstance(thing, str) or not least <= len(thing) <= most:
+        return False
+    return all(["a" <= sign <= "z" for sign in thing])
