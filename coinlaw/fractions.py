@@ -16,6 +16,18 @@ def fraction_of(top, bottom):
     return top // divisor, bottom // divisor
 
 
+def plus(one, other):
+    return fraction_of(one[0] * other[1] + other[0] * one[1], one[1] * other[1])
+
+
+def minus(one, other):
+    return plus(one, (-other[0], other[1]))
+
+
+def times(one, other):
+    return fraction_of(one[0] * other[0], one[1] * other[1])
+
+
 def greatest_divisor(top, bottom):
     """The greatest whole number that divides both, bottom from 1 on."""
     # Behind the first turn both are from 0 on, so a top below nought needs no care.

@@ -21,6 +21,13 @@ def is_rising(things):
     return all([one < other for one, other in zip(things, things[1:])])
 
 
+def is_same(thing, other):
+    """Whether thing is just other, which is made of tuples, whole numbers and texts; True is not 1."""
+    if isinstance(other, tuple):
+        return is_tuple_of(thing, len(other), len(other)) and all([is_same(one, two) for one, two in zip(thing, other)])
+    return thing == other and not isinstance(thing, bool)
+
+
 def is_word(thing):
     return is_letters(thing, 1, 8)
 

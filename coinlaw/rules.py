@@ -1,6 +1,7 @@
 """Rules: currencies, and the rates, taxes and customs of their days."""
 
 from coinlaw.days import is_day
+from coinlaw.errors import NoRules
 from coinlaw.kinds import is_code, is_rising, is_tuple_of, is_within, is_word
 from coinlaw.roundings import is_custom
 
@@ -13,6 +14,11 @@ def are_rules(thing):
         return False
     codes = [row[0] for row in currencies]
     return are_rates(rates, codes) and are_taxes(taxes) and are_customs(customs)
+
+
+def refuse_no_rules(thing):
+    if not are_rules(thing):
+        raise NoRules("rules are a tuple of currencies, rates, taxes and customs")
 
 
 def are_currencies(thing):
@@ -71,3 +77,17 @@ def is_custom_row(row):
         return False
     day, custom = row
     return is_day(day) and is_custom(custom)
+
+
+def codes_of(rules):
+    """The codes of the rules' currencies, rising."""
+    return [row[0] for row in rules[0]]
+
+
+def custom_at(rules, day):
+    """The custom of rounding that stands at a day."""
+    standing = "even"
+    for since, custom in rules[3]:
+        if since <= day:
+            standing = custom
+    return standing

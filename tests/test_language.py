@@ -30,6 +30,8 @@ DOUBLE = set(
 SHUT_OUT = (
     ast.Global, ast.AsyncFunctionDef, ast.AsyncFor, ast.AsyncWith, ast.Await, ast.Import, ast.Div, ast.MatMult,
 )
+AT_ONCE = ("zip", "enumerate", "reversed", "range", "items", "keys", "values")
+ITERATING = ("list", "tuple", "dict", "sorted", "sum", "any", "all", "enumerate", "zip", "min", "max")
 AT_TOP = (ast.Expr, ast.ImportFrom, ast.FunctionDef, ast.ClassDef, ast.Assign)
 
 
@@ -116,8 +118,12 @@ class Language(unittest.TestCase):
             bound = list(top_names(tree))
             bound += [part.asname or part.name for node in imports(tree) for part in node.names]
             self.assertEqual(len(bound), len(set(bound)), name)
-            inner = {part.arg for part in ast.walk(tree) if isinstance(part, ast.arg)}
-            self.assertFalse(inner & set(bound), name)
+            for function in ast.walk(tree):
+                if isinstance(function, ast.FunctionDef):
+                    inner = {part.arg for part in ast.walk(function) if isinstance(part, ast.arg)}
+                    inner |= {part.id for part in ast.walk(function)
+                              if isinstance(part, ast.Name) and isinstance(part.ctx, ast.Store)}
+                    self.assertFalse(inner & set(bound), f"{name}:{function.name}")
 
     def test_imports_name_the_file_that_defines(self):
         defined = {name[:-3]: set(top_names(tree)) for name, tree in trees()}
@@ -187,6 +193,20 @@ class Language(unittest.TestCase):
                 if isinstance(node, ast.Raise) and node.exc is not None:
                     self.assertIsInstance(node.exc, ast.Call, f"{name}:{node.lineno}")
                     self.assertIsInstance(node.exc.func, ast.Name, f"{name}:{node.lineno}")
+
+    def test_what_is_iterated_at_once(self):
+        for name, tree in trees():
+            allowed = set()
+            for node in ast.walk(tree):
+                if isinstance(node, (ast.For, ast.comprehension)):
+                    allowed.add(node.iter)
+                elif isinstance(node, ast.Call) and isinstance(node.func, ast.Name) and node.func.id in ITERATING:
+                    allowed |= set(node.args[:1])
+            for node in ast.walk(tree):
+                if isinstance(node, ast.Call):
+                    called = node.func.id if isinstance(node.func, ast.Name) else getattr(node.func, "attr", None)
+                    if called in AT_ONCE:
+                        self.assertIn(node, allowed, f"{name}:{node.lineno}")
 
     def test_generators_stand_in_no_any_all_min_max_sum_sorted(self):
         # The classes that later points ask for have __eq__, and then these take a list (L7).

@@ -1,17 +1,14 @@
 """[21], with [2] to [5] as far as they speak of roundings."""
 
-import math
 import unittest
 from fractions import Fraction
 
 from coinlaw.errors import NoCustom, NoNumber, NoStep
 from coinlaw.fractions import is_fraction
 from coinlaw.roundings import rounded
-from helpers import NEITHER, THIRTY, asked, refused, same_kind
+from helpers import CUSTOMS, NEITHER, THIRTY, asked, pair, refused, round_by_hand, same_kind
 
-NAMES = ("down", "up", "in", "out", "even", "far")
-
-# (top, bottom), then what each custom tells, in the order of NAMES.
+# (top, bottom), then what each custom tells, in the order of CUSTOMS.
 TOLD = (
     ((0, 1), (0, 0, 0, 0, 0, 0)), ((0, 7), (0, 0, 0, 0, 0, 0)),
     ((3, 1), (3, 3, 3, 3, 3, 3)), ((-3, 1), (-3, -3, -3, -3, -3, -3)), ((6, 2), (3, 3, 3, 3, 3, 3)),
@@ -39,61 +36,41 @@ STEPPED = (
 )
 
 
-def by_hand(exact, custom, step):
-    """What is told, by another road than the program's."""
-    exact = exact / step
-    low, high = math.floor(exact), math.ceil(exact)
-    if custom == "down":
-        told = low
-    elif custom == "up":
-        told = high
-    elif custom == "in":
-        told = min(low, high, key=abs)
-    elif custom == "out":
-        told = max(low, high, key=abs)
-    elif custom == "even":
-        told = round(exact)
-    else:
-        told = math.floor(abs(exact) + Fraction(1, 2)) * (1 if exact > 0 else -1)
-    return told * step
-
-
 class Roundings(unittest.TestCase):
     def check(self, top, bottom, custom, step, told):
         exact = Fraction(top, bottom)
         rest = exact - told
-        same_kind(self, asked(self, rounded, top, bottom, custom, step=step),
-                  (told, (rest.numerator, rest.denominator)))
+        same_kind(self, asked(self, rounded, top, bottom, custom, step=step), (told, pair(rest)))
 
     def test_each_custom(self):
         for (top, bottom), row in TOLD:
-            for custom, told in zip(NAMES, row):
+            for custom, told in zip(CUSTOMS, row):
                 with self.subTest(top=top, bottom=bottom, custom=custom):
                     self.check(top, bottom, custom, 1, told)
                     same_kind(self, rounded(top, bottom, custom), rounded(top, bottom, custom, step=1))
 
     def test_each_custom_by_steps(self):
         for (top, bottom, step), row in STEPPED:
-            for custom, told in zip(NAMES, row):
+            for custom, told in zip(CUSTOMS, row):
                 with self.subTest(top=top, bottom=bottom, step=step, custom=custom):
                     self.check(top, bottom, custom, step, told)
 
     def test_many_by_another_road(self):
-        for custom in NAMES:
+        for custom in CUSTOMS:
             for step in (1, 2, 3, 5, 10, 99, 100):
                 for bottom in (1, 2, 3, 4, 6, 10, 12, 100):
                     for top in list(range(-26, 27)) + [-1050, -1000, -550, 450, 550, 1001, 123456789, -987654321]:
-                        told = by_hand(Fraction(top, bottom), custom, step)
+                        told = round_by_hand(Fraction(top, bottom), custom, step)
                         self.check(top, bottom, custom, step, told)
 
     def test_great_numbers(self):
-        for custom in NAMES:
+        for custom in CUSTOMS:
             for top in (THIRTY + 1, -THIRTY - 1, 10 ** 90 + 7, -(10 ** 90) - 7):
                 for bottom in (2, 7, THIRTY - 1, 10 ** 60):
-                    self.check(top, bottom, custom, 100, by_hand(Fraction(top, bottom), custom, 100))
+                    self.check(top, bottom, custom, 100, round_by_hand(Fraction(top, bottom), custom, 100))
 
     def test_told_and_rest_are_together_what_was_rounded(self):
-        for custom in NAMES:
+        for custom in CUSTOMS:
             for step in (1, 5, 100):
                 for top in range(-120, 121, 7):
                     for bottom in (1, 2, 4, 9, 30):
@@ -103,7 +80,7 @@ class Roundings(unittest.TestCase):
                         self.assertEqual(told + Fraction(*rest), Fraction(top, bottom))
 
     def test_not_in_least_terms(self):
-        for custom in NAMES:
+        for custom in CUSTOMS:
             for times in (2, 3, 50, THIRTY):
                 same_kind(self, rounded(-5 * times, 2 * times, custom), rounded(-5, 2, custom))
                 same_kind(self, rounded(7 * times, 3 * times, custom, step=5), rounded(7, 3, custom, step=5))

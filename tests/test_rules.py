@@ -3,7 +3,7 @@
 import unittest
 
 from coinlaw.rules import are_rules
-from helpers import NEITHER, THIRTY, TRUTHS, asked
+from helpers import NEITHER, THIRTY, TRUTHS, asked, part_at, places, put
 
 CURRENCIES = (("chf", 2, 5), ("eur", 2, 1), ("jpy", 0, 100), ("tnd", 3, 10))
 RATES = (
@@ -28,28 +28,6 @@ NO_CODES = (
 NO_WAYS = ("", "On", "off", "with", "in", "within ", None, 0, True, ["on"], ("on",), {"on": 1})
 NO_CUSTOMS = ("", "Even", "odd", "near", "even ", None, 0, True, ["even"], ("even",), {"even": 1})
 NO_NUMBERS = (None, "1", "", [1], (1,), {}, {1: 1}) + TRUTHS
-
-
-def places(thing, path=()):
-    """The path of each part of thing, at each depth, thing itself too."""
-    yield path
-    if isinstance(thing, tuple):
-        for at, part in enumerate(thing):
-            yield from places(part, path + (at,))
-
-
-def part_at(thing, path):
-    for at in path:
-        thing = thing[at]
-    return thing
-
-
-def put(thing, path, new):
-    """Thing with new at the path."""
-    if not path:
-        return new
-    at = path[0]
-    return thing[:at] + (put(thing[at], path[1:], new),) + thing[at + 1:]
 
 
 def letters(number):

@@ -8,7 +8,7 @@ from fractions import Fraction
 from coinlaw.errors import NoCoins, NoWay, NoWeights
 from coinlaw.fractions import is_fraction
 from coinlaw.splits import is_fair, split
-from helpers import NEITHER, THIRTY, TRUTHS, asked, refused, same_kind
+from helpers import NEITHER, THIRTY, TRUTHS, asked, pair, refused, same_kind
 
 WAYS = ("greatest", "running", "last")
 MILLION = 1000000
@@ -91,7 +91,7 @@ def pairs():
 class Splits(unittest.TestCase):
     def check(self, coins, weights, way, parts):
         rests = [exact - part for exact, part in zip(exact_parts(coins, weights), parts)]
-        told = tuple((rest.numerator, rest.denominator) for rest in rests)
+        told = tuple(pair(rest) for rest in rests)
         same_kind(self, asked(self, split, coins, weights, way=way), (parts, told))
 
     def test_each_way(self):
