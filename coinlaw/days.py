@@ -6,16 +6,21 @@ from coinlaw.kinds import is_tuple_of, is_whole, is_within
 LAST_DAY = 9999
 MONTH_DAYS = 30
 YEAR_MONTHS = 12
+YEAR_DAYS = 360
 
 
 def is_day(thing):
     return is_within(thing, 0, LAST_DAY)
 
 
+def refuse_no_day(thing):
+    if not is_day(thing):
+        raise NoDay("a day is a whole number from 0 to 9,999")
+
+
 def date_of(day):
     """The date (year, month, day of the month) of a day."""
-    if not is_day(day):
-        raise NoDay("a day is a whole number from 0 to 9,999")
+    refuse_no_day(day)
     months, days = divmod(day, MONTH_DAYS)
     year, month = divmod(months, YEAR_MONTHS)
     return year, month + 1, days + 1

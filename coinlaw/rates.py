@@ -1,7 +1,7 @@
 """Rates between currencies at a day."""
 
-from coinlaw.days import is_day
-from coinlaw.errors import NoCode, NoDay
+from coinlaw.days import refuse_no_day
+from coinlaw.errors import NoCode
 from coinlaw.fractions import fraction_of
 from coinlaw.rules import codes_of, refuse_no_rules
 
@@ -42,5 +42,4 @@ def standing_rates(rules, day):
 
 def refuse_rules_and_day(rules, day):
     refuse_no_rules(rules)
-    if not is_day(day):
-        raise NoDay("a day is a whole number from 0 to 9,999")
+    refuse_no_day(day)

@@ -2,6 +2,7 @@
 
 import copy
 import math
+import random
 from fractions import Fraction
 
 THIRTY = 10 ** 29
@@ -21,6 +22,16 @@ NO_RULES = NEITHER + (
     0, 1, "rules", [EUROS, (), (), ()], (EUROS, (), ()), (EUROS, (), (), (), ()), ((), (), (), ()),
     (EUROS + EUROS, (), (), ()), (EUROS, [], (), ()), (EUROS, (), None, ()), (EUROS, (), (), ((1, "even"),)),
     (EUROS, (("eur", "eur", 0, 1, 1),), (), ()), ((("eur", 2, True),), (), (), ()), ((EUROS, (), (), ()),),
+)
+NO_ACCOUNTS = NEITHER + (
+    0, "ann", ("ann",), ("eur",), ("ann", "eur", 0), ["ann", "eur"], ("ann", "zzz"), ("ann", "EUR"), ("ann", "eu"),
+    ("", "eur"), ("Ann", "eur"), ("abcdefghi", "eur"), ("an n", "eur"), ("ann1", "eur"), (None, "eur"), ("ann", None),
+    (True, "eur"), ("ann", True), (["ann"], "eur"), ("ann", ["eur"]), ("ann", {}), ({}, "eur"), (("ann",), "eur"),
+    ("ann", ("eur",)), (("ann", "eur"),), ("eur", "ann"), {"ann": "eur"}, (0, 1), ("ann\n", "eur"), ("ann", "eur\n"),
+)
+NO_PARTS = NEITHER + (
+    0, 1, (1,), (1, 2, 3), [1, 2], (-1, 2), (101, 1000), (1, 0), (1, 1001), (0, 0), (True, 2), (1, True), (1, None),
+    (None, 2), ("1", 2), (1, "2"), ([1], 2), (1, [2]), ((1, 2),), (THIRTY, THIRTY), (1, -2), {1: 2}, (False, 1),
 )
 
 
@@ -85,6 +96,12 @@ def rate_by_look(rules, day, one, other):
         if since <= day and {less, greater} == {one, other} and (best is None or since > best[0]):
             best = (since, Fraction(top, bottom) if less == one else Fraction(bottom, top))
     return None if best is None else best[1]
+
+
+def shuffled(things, many):
+    """Numbered lists of the things, each in another order."""
+    for turn in range(many):
+        yield turn, random.Random(turn).sample(list(things), len(things))
 
 
 def pair(number):

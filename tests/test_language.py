@@ -70,13 +70,20 @@ def imports(tree):
     return [node for node in ast.walk(tree) if isinstance(node, ast.ImportFrom)]
 
 
+def classes():
+    return [node for _, tree in trees() for node in ast.walk(tree) if isinstance(node, ast.ClassDef)]
+
+
 def own_methods():
-    names = set()
-    for _, tree in trees():
+    return {part.name for node in classes() for part in node.body if isinstance(part, ast.FunctionDef)}
+
+
+def attributes(stored):
+    """(where, name) of each attribute that is assigned, or of each that is read."""
+    for name, tree in trees():
         for node in ast.walk(tree):
-            if isinstance(node, ast.ClassDef):
-                names |= {part.name for part in node.body if isinstance(part, ast.FunctionDef)}
-    return names
+            if isinstance(node, ast.Attribute) and isinstance(node.ctx, ast.Store) == stored:
+                yield f"{name}:{node.lineno}", node.attr
 
 
 class Language(unittest.TestCase):
@@ -172,6 +179,39 @@ class Language(unittest.TestCase):
             for node in ast.walk(tree):
                 if isinstance(node, ast.Call) and isinstance(node.func, ast.Attribute):
                     self.assertIn(node.func.attr, known, f"{name}:{node.lineno}")
+
+    def test_attributes(self):
+        methods = own_methods()
+        assigned = {name for _, name in attributes(True)}
+        self.assertFalse(assigned & methods)
+        self.assertFalse(assigned & (METHODS | BUILTINS | BARRED_NAMES))
+        for where, name in attributes(False):
+            self.assertIn(name, assigned | methods | METHODS, where)
+
+    def test_methods_stand_once_and_by_plain_names(self):
+        for node in classes():
+            names = [part.name for part in node.body if isinstance(part, ast.FunctionDef)]
+            self.assertEqual(len(names), len(set(names)), node.name)
+            for name in names:
+                self.assertTrue(name in DOUBLE or not name.startswith("_"), name)
+                # operators would bring more rules of L5 with them
+                self.assertNotIn(name, ("__ne__", "__lt__", "__contains__", "__bool__"))
+
+    def test_double_underscore_methods_change_nothing(self):
+        for node in classes():
+            for part in node.body:
+                if isinstance(part, ast.FunctionDef) and part.name in ("__eq__", "__repr__", "__len__"):
+                    self.assertIsInstance(part.body[-1], ast.Return)
+                    for inner in ast.walk(part):
+                        self.assertNotIsInstance(inner, (ast.Assign, ast.AugAssign, ast.Delete))
+
+    def test_calls_of_methods_with_a_builtin_methods_name_have_no_keywords(self):
+        for name, tree in trees():
+            for node in ast.walk(tree):
+                if isinstance(node, ast.Call) and isinstance(node.func, ast.Attribute) and node.func.attr in METHODS:
+                    self.assertFalse(node.keywords, f"{name}:{node.lineno}")
+                    # a class has __eq__ and __len__ (L25)
+                    self.assertNotEqual(node.func.attr, "sort", f"{name}:{node.lineno}")
 
     def test_signs_that_are_shut_out(self):
         for name, tree in trees():
