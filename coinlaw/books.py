@@ -54,6 +54,16 @@ class Book:
             entries.append((number, day, coins, held + coins))
         return number
 
+    def cut(self, accounts, postings):
+        """Makes the book what it was with so many accounts and so many postings."""
+        while len(self.posted) > postings:
+            day, text, rows = self.posted.pop()
+            for account, coins in rows:
+                self.entries[account].pop()
+        # A dict keeps its order, so those that were opened last stand last.
+        for account in list(self.entries)[accounts:]:
+            del self.entries[account]
+
     def accounts(self):
         """The open accounts, rising."""
         return sorted(self.entries)

@@ -41,3 +41,9 @@ def is_letters(thing, least, most):
     if not isinstance(thing, str) or not least <= len(thing) <= most:
         return False
     return all(["a" <= sign <= "z" for sign in thing])
+
+
+def are_figures(text):
+    """Whether a text is one figure and more, and nothing else."""
+    # Python's own question would take figures of other scripts, too.
+    return text != "" and all(["0" <= sign <= "9" for sign in text])

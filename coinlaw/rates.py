@@ -1,19 +1,15 @@
 """Rates between currencies at a day."""
 
 from coinlaw.days import refuse_no_day
-from coinlaw.errors import NoCode
 from coinlaw.fractions import fraction_of
-from coinlaw.rules import codes_of, refuse_no_rules
+from coinlaw.rules import codes_of, refuse_no_code, refuse_no_rules
 
 
 def rate(rules, day, one, other):
     """The rate from one code to another one at a day, None where none stands yet."""
     refuse_rules_and_day(rules, day)
-    codes = codes_of(rules)
-    if one not in codes:
-        raise NoCode("the code to change from is none of the rules' currencies")
-    if other not in codes:
-        raise NoCode("the code to change to is none of the rules' currencies")
+    refuse_no_code(rules, one)
+    refuse_no_code(rules, other)
     return standing_rate(rules, day, one, other)
 
 

@@ -1,7 +1,7 @@
 """Rules: currencies, and the rates, taxes and customs of their days."""
 
 from coinlaw.days import is_day
-from coinlaw.errors import NoRules
+from coinlaw.errors import NoCode, NoRules
 from coinlaw.kinds import is_code, is_rising, is_tuple_of, is_within, is_word
 from coinlaw.roundings import is_custom
 
@@ -82,6 +82,11 @@ def is_custom_row(row):
 def codes_of(rules):
     """The codes of the rules' currencies, rising."""
     return [row[0] for row in rules[0]]
+
+
+def refuse_no_code(rules, thing):
+    if thing not in codes_of(rules):
+        raise NoCode("that is no code of the rules' currencies")
 
 
 def custom_at(rules, day):
