@@ -68,6 +68,18 @@ def same_kind(test, told, expected):
     test.assertEqual(repr(told), repr(expected))
 
 
+def like(test, one, other):
+    for left, right in ((one, other), (other, one)):
+        test.assertIs(left == right, True)
+        test.assertIs(left != right, False)
+
+
+def unlike(test, one, other):
+    for left, right in ((one, other), (other, one)):
+        test.assertIs(left == right, False)
+        test.assertIs(left != right, True)
+
+
 def round_by_hand(exact, custom, step=1):
     """What is told, by another road than the program's."""
     exact = exact / step

@@ -5,7 +5,9 @@ import unittest
 
 from coinlaw.books import Book
 from coinlaw.errors import Early, NoAccount, NoDay, NoNumber, NoRows, NoRules, NoText, Open
-from helpers import NEITHER, NO_ACCOUNTS, NO_DAYS, NO_RULES, THIRTY, TRUTHS, asked, refused, same_kind, shuffled
+from helpers import (
+    NEITHER, NO_ACCOUNTS, NO_DAYS, NO_RULES, THIRTY, TRUTHS, asked, like, refused, same_kind, shuffled, unlike,
+)
 
 CODES = ("chf", "eur", "jpy")
 CURRENCIES = (("chf", 2, 5), ("eur", 2, 1), ("jpy", 0, 1))
@@ -204,6 +206,13 @@ class Postings(unittest.TestCase):
                       ((FRANCS, 3), (ANN, -4), (("bob", "chf"), -2), (BOB, 3))):
             refused(self, NoRows, book.post, 0, "swap", wrong)
 
+    def test_rules_of_one_code(self):
+        book = opened(ANN, BOB, CY, rules=((("eur", 2, 1),), (), (), ()))
+        same_kind(self, book.post(0, "a", ROWS), 0)
+        for wrong in (((ANN, 5), (BOB, -4)), ((ANN, 5), (BOB, 5)), ((ANN, 5), (BOB, -5), (CY, 1))):
+            refused(self, NoRows, book.post, 0, "a", wrong)
+        same_kind(self, book.trial(0), {"eur": (("ann", 5), ("bob", -5))})
+
     def test_what_is_told_again(self):
         book = ready()
         before = whole(book)
@@ -332,42 +341,32 @@ class Twins(unittest.TestCase):
 
 
 class Equals(unittest.TestCase):
-    def like(self, one, other):
-        for left, right in ((one, other), (other, one)):
-            self.assertIs(left == right, True)
-            self.assertIs(left != right, False)
-
-    def unlike(self, one, other):
-        for left, right in ((one, other), (other, one)):
-            self.assertIs(left == right, False)
-            self.assertIs(left != right, True)
-
     def test_orders_of_opening(self):
-        self.like(opened(ANN, BOB), opened(BOB, ANN))
-        self.like(opened(ANN, BOB, YEN), opened(YEN, BOB, ANN))
-        self.unlike(opened(ANN, BOB), opened(ANN))
-        self.unlike(opened(ANN, BOB), opened(ANN, CY))
-        self.unlike(Book(RULES), opened(ANN))
+        like(self, opened(ANN, BOB), opened(BOB, ANN))
+        like(self, opened(ANN, BOB, YEN), opened(YEN, BOB, ANN))
+        unlike(self, opened(ANN, BOB), opened(ANN))
+        unlike(self, opened(ANN, BOB), opened(ANN, CY))
+        unlike(self, Book(RULES), opened(ANN))
 
     def test_rules(self):
         for rules in OTHER_RULES:
-            self.unlike(Book(RULES), Book(rules))
-            self.like(Book(rules), Book(rules))
+            unlike(self, Book(RULES), Book(rules))
+            like(self, Book(rules), Book(rules))
 
     def test_postings(self):
-        self.like(ready(), ready())
+        like(self, ready(), ready())
         for lead in (lambda book: book.post(10, "more", ROWS), lambda book: book.reverse(0, 10),
                      lambda book: book.begin(DAN)):
             one, other = ready(), ready()
             lead(one)
-            self.unlike(one, other)
+            unlike(self, one, other)
             lead(other)
-            self.like(one, other)
+            like(self, one, other)
         for day, text, rows in ((1, "a", ROWS), (0, "b", ROWS), (0, "a", ((ANN, 4), (BOB, -4)))):
             one, other = opened(ANN, BOB), opened(ANN, BOB)
             one.post(0, "a", ROWS)
             other.post(day, text, rows)
-            self.unlike(one, other)
+            unlike(self, one, other)
 
     def test_other_orders_of_postings(self):
         one, other = opened(ANN, BOB), opened(ANN, BOB)
@@ -375,7 +374,7 @@ class Equals(unittest.TestCase):
             one.post(0, text, ROWS)
         for text in ("b", "a"):
             other.post(0, text, ROWS)
-        self.unlike(one, other)
+        unlike(self, one, other)
 
     def test_turned_back_is_as_posted_back(self):
         one, other = opened(ANN, BOB), opened(ANN, BOB)
@@ -383,11 +382,11 @@ class Equals(unittest.TestCase):
             book.post(0, "a", ROWS)
         one.reverse(0, 1)
         other.post(1, "back", ((ANN, -5), (BOB, 5)))
-        self.like(one, other)
+        like(self, one, other)
 
     def test_things_of_other_kinds(self):
         for thing in NEITHER + (0, RULES, "Book(0 accounts, 0 postings)", [Book(RULES)], object(), Book):
-            self.unlike(Book(RULES), thing)
+            unlike(self, Book(RULES), thing)
 
     def test_len_and_repr(self):
         for book, many, told in (

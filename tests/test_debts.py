@@ -212,6 +212,13 @@ class PaymentsOfAnything(unittest.TestCase):
         no(self, do_clear, (), (("ann", "bob", 1), ("bob", "ann", 1)))
         yes(self, do_clear, (), ())
 
+    def test_payments_that_are_none(self):
+        debts = (("ann", "bob", 5),)
+        no(self, do_clear, debts, (("ann", "ann", 1), ("ann", "bob", 5)))
+        no(self, do_clear, debts, (("ann", "bob", 5), ("bob", "ann", 0)))
+        no(self, do_clear, debts, (("ann", "bob", 4), ("bob", "ann", -1)))
+        no(self, do_clear, debts, (("bob", "ann", -5),))
+
     def test_two_of_the_same_words(self):
         debts = (("ann", "bob", 5),)
         no(self, do_clear, debts, (("ann", "bob", 2), ("ann", "bob", 3)))

@@ -12,7 +12,7 @@ from coinlaw.errors import (
 )
 from coinlaw.fractions import is_fraction
 from coinlaw.houses import House
-from helpers import NEITHER, NO_PARTS, NO_RULES, THIRTY, TRUTHS, asked, pair, refused, same_kind
+from helpers import NEITHER, NO_PARTS, NO_RULES, THIRTY, asked, like, pair, refused, same_kind, unlike
 from test_bills import NO_LINES, by_hand as billed_by_hand
 from test_loans import exact_interest, rows_by_hand
 from test_roads import by_hand as along_by_hand
@@ -677,41 +677,31 @@ class Deeds(Looks):
 
 
 class Equals(unittest.TestCase):
-    def like(self, one, other):
-        for left, right in ((one, other), (other, one)):
-            self.assertIs(left == right, True)
-            self.assertIs(left != right, False)
-
-    def unlike(self, one, other):
-        for left, right in ((one, other), (other, one)):
-            self.assertIs(left == right, False)
-            self.assertIs(left != right, True)
-
     def test_rules_parts_and_logs(self):
-        self.like(House(RULES, PART), House(RULES, PART))
-        self.unlike(House(RULES, PART), House(RULES, (3, 25)))
-        self.unlike(House(RULES, PART), House(RULES[:3] + ((),), PART))
-        self.unlike(House(RULES, PART), House((RULES[0], RULES[1][:3], RULES[2], RULES[3]), PART))
-        self.like(done(START), done(START))
-        self.unlike(done(START), done(START[:-1]))
-        self.unlike(done(START), done(START + (("on", 0),)))
-        self.unlike(done(START + (("on", 2),)), done(START + (("on", 1), ("on", 1))))
-        self.unlike(done(START), done(START[1:2] + START[:1] + START[2:]))
+        like(self, House(RULES, PART), House(RULES, PART))
+        unlike(self, House(RULES, PART), House(RULES, (3, 25)))
+        unlike(self, House(RULES, PART), House(RULES[:3] + ((),), PART))
+        unlike(self, House(RULES, PART), House((RULES[0], RULES[1][:3], RULES[2], RULES[3]), PART))
+        like(self, done(START), done(START))
+        unlike(self, done(START), done(START[:-1]))
+        unlike(self, done(START), done(START + (("on", 0),)))
+        unlike(self, done(START + (("on", 2),)), done(START + (("on", 1), ("on", 1))))
+        unlike(self, done(START), done(START[1:2] + START[:1] + START[2:]))
         house = done(START)
         house.on(5)
-        self.unlike(house, done(START))
+        unlike(self, house, done(START))
         house.undo()
-        self.like(house, done(START))
+        like(self, house, done(START))
 
     def test_per_counts(self):
         one, other = two(), two()
         one.sell("bob", "ann", "eur", (("free", 1, 1),), per="line")
         other.sell("bob", "ann", "eur", (("free", 1, 1),), per="sum")
-        self.unlike(one, other)
+        unlike(self, one, other)
 
     def test_things_of_other_kinds(self):
         for thing in NEITHER + (0, RULES, [], "House(day 0, 0 people, 0 deeds)", House(RULES, PART).book(), House):
-            self.unlike(House(RULES, PART), thing)
+            unlike(self, House(RULES, PART), thing)
 
     def test_len_and_repr(self):
         for deeds, told in (
@@ -866,6 +856,7 @@ class Refusals(unittest.TestCase):
                 self.wrong(NoPerson, word, "dan", "eur", MOST)
             self.wrong(NoPerson, "give", wrong, wrong, wrong, wrong)
             self.wrong(NoPerson, "give", "ann", wrong, wrong, wrong)
+            self.wrong(NoPerson, "give", wrong, "ann", wrong, wrong)
             self.wrong(NoCode, "give", "ann", "ann", wrong, wrong)
             self.wrong(NoCoins, "give", "ann", "ann", "eur", wrong)
             self.wrong(NoCoins, "give", "dan", "eve", "eur", wrong)
@@ -875,6 +866,7 @@ class Refusals(unittest.TestCase):
             self.wrong(NoCoins, "swap", "dan", ("eur", "chf"), wrong)
             self.wrong(NoPerson, "sell", wrong, wrong, wrong, wrong, per=wrong)
             self.wrong(NoPerson, "sell", "dan", wrong, wrong, wrong, per=wrong)
+            self.wrong(NoPerson, "sell", wrong, "dan", wrong, wrong, per=wrong)
             self.wrong(NoCode, "sell", "dan", "dan", wrong, wrong, per=wrong)
             self.wrong(NoBill, "sell", "dan", "dan", "eur", wrong, per=wrong)
             self.wrong(NoPer, "sell", "dan", "dan", "eur", LINES, per=[wrong])
